@@ -1,0 +1,1 @@
+"""Webs coloured with every two hues equally often, or one apart."""

@@ -1,0 +1,1 @@
+"""Rows of hues, and webs of places and ties."""

@@ -1,0 +1,139 @@
+"""Tests of the package's form: those rules of the language that can be seen in the syntax tree."""
+
+import ast
+import builtins
+import pathlib
+import unittest
+
+PACKAGE = pathlib.Path(__file__).resolve().parent.parent / "levelhues"
+LIBRARY = {"heapq", "math", "itertools", "collections"}
+CALLABLE = set(
+    "len range enumerate zip min max sum abs sorted reversed int str bool bytes list tuple dict set frozenset "
+    "isinstance ord repr any all divmod pow getattr hasattr setattr iter next map type "
+    "property classmethod staticmethod super "
+    "Exception ValueError TypeError KeyError IndexError LookupError ZeroDivisionError ArithmeticError OverflowError "
+    "RuntimeError NotImplementedError AttributeError StopIteration NotImplemented".split()
+)
+SPECIAL = set(
+    "__init__ __eq__ __repr__ __str__ __len__ __enter__ __exit__ __call__ __iter__ __lt__ __le__ __gt__ __ge__ __ne__ "
+    "__add__ __sub__ __mul__ __floordiv__ __mod__ __and__ __or__ __xor__ __neg__ __invert__ __bool__ __contains__ "
+    "__getitem__ __setitem__".split()
+)
+BARRED = (
+    ast.AsyncFunctionDef, ast.AsyncFor, ast.AsyncWith, ast.Await, ast.Import, ast.Div, ast.MatMult,
+)
+# Where a class has an `__eq__`, these take a list instead of a generator expression.
+TAKE_LISTS = {"any", "all", "min", "max", "sum", "sorted", "set"}
+
+
+def sources():
+    """The files of the package with their texts."""
+    return [(path, path.read_text(encoding="utf-8")) for path in sorted(PACKAGE.rglob("*.py"))]
+
+
+def trees():
+    """The files of the package with their syntax trees."""
+    return [(path, ast.parse(text)) for path, text in sources()]
+
+
+def nodes(kind):
+    """All nodes of a kind, each with the place that a message names."""
+    return [
+        (node, f"{path.relative_to(PACKAGE)}:{getattr(node, 'lineno', 0)}")
+        for path, tree in trees() for node in ast.walk(tree) if isinstance(node, kind)
+    ]
+
+
+def names_bound_in(file):
+    """The names of the functions, classes and constants that a file defines itself."""
+    body = ast.parse(file.read_text(encoding="utf-8")).body
+    defined = {item.name for item in body if isinstance(item, (ast.FunctionDef, ast.ClassDef))}
+    return defined | {item.targets[0].id for item in body if isinstance(item, ast.Assign)}
+
+
+class FormTest(unittest.TestCase):
+    def test_folder_holds_only_source_files(self):
+        for path in PACKAGE.rglob("*"):
+            if "__pycache__" not in path.parts:
+                with self.subTest(path=path.name):
+                    self.assertTrue((path / "__init__.py").is_file() if path.is_dir() else path.suffix == ".py")
+
+    def test_sizes_and_characters(self):
+        for path, text in sources():
+            with self.subTest(path=path.name):
+                self.assertTrue(text.isascii() and text.replace("\n", "").isprintable())
+                self.assertLessEqual(len(text.splitlines()), 399)
+                self.assertLessEqual(max(map(len, text.splitlines()), default=0), 120)
+        for node, where in nodes(ast.FunctionDef):
+            with self.subTest(where=where):
+                self.assertLessEqual(node.end_lineno - node.lineno + 1, 40)
+
+    def test_imports(self):
+        for node, where in nodes(ast.ImportFrom):
+            with self.subTest(where=where):
+                self.assertEqual(node.level, 0)
+                if node.module not in LIBRARY:
+                    file = PACKAGE.parent.joinpath(*node.module.split(".")).with_suffix(".py")
+                    self.assertLessEqual({alias.name for alias in node.names}, names_bound_in(file))
+
+    def test_no_barred_statements_and_signs(self):
+        for _, where in nodes(BARRED):
+            self.fail(where)
+
+    def test_module_level(self):
+        for path, tree in trees():
+            for node in tree.body:
+                with self.subTest(where=f"{path.name}:{node.lineno}"):
+                    self.assertIsInstance(
+                        node, (ast.Expr, ast.ImportFrom, ast.FunctionDef, ast.ClassDef, ast.Assign)
+                    )
+                    if isinstance(node, ast.Expr):
+                        self.assertIs(node, tree.body[0])
+
+    def test_builtins(self):
+        for node, where in nodes(ast.Name):
+            if node.id in vars(builtins):
+                with self.subTest(where=where, name=node.id):
+                    self.assertIn(node.id, CALLABLE)
+                    self.assertIsInstance(node.ctx, ast.Load)
+
+    def test_names(self):
+        for node, where in nodes((ast.FunctionDef, ast.ClassDef)):
+            with self.subTest(where=where):
+                self.assertTrue(node.name in SPECIAL or not node.name.startswith("__"))
+                self.assertNotIn(node.name, vars(builtins))
+        for node, where in nodes(ast.arg):
+            with self.subTest(where=where):
+                self.assertNotIn(node.arg, vars(builtins))
+
+    def test_no_generator_expression_where_a_list_must_stand(self):
+        for node, where in nodes(ast.Call):
+            if isinstance(node.func, ast.Name) and node.func.id in TAKE_LISTS:
+                with self.subTest(where=where):
+                    self.assertFalse([item for item in node.args if isinstance(item, ast.GeneratorExp)])
+
+    def test_strings(self):
+        for node, where in nodes(ast.Constant):
+            with self.subTest(where=where):
+                self.assertNotIsInstance(node.value, (float, complex))
+                if isinstance(node.value, str):
+                    self.assertNotIn("%", node.value)
+
+    def test_is_stands_beside_none_and_booleans(self):
+        for node, where in nodes(ast.Compare):
+            for sign, side in zip(node.ops, node.comparators):
+                if isinstance(sign, (ast.Is, ast.IsNot)):
+                    with self.subTest(where=where):
+                        self.assertIn(getattr(side, "value", 0), (None, True, False))
+
+    def test_no_docstring_is_missing(self):
+        for path, tree in trees():
+            for node in [tree, *tree.body]:
+                if isinstance(node, (ast.Module, ast.ClassDef, ast.FunctionDef)):
+                    if not getattr(node, "name", "module").startswith("_"):
+                        with self.subTest(path=path.name, name=getattr(node, "name", "module")):
+                            self.assertTrue(ast.get_docstring(node))
+
+
+if __name__ == "__main__":
+    unittest.main()
