@@ -72,6 +72,20 @@ def wrong_rows():
     ]
 
 
+def wrong_webs():
+    """Values that are no webs."""
+    return [value for value in [0, 5, HUGE, *odd_values(), *odd_tuples()] if not isinstance(value, Web)]
+
+
+def any_values():
+    """Values of every kind that the document lists."""
+    return [
+        0, 1, -1, HUGE, -HUGE, *odd_values(), *odd_tuples(), (0,), (0, 1), (0, 1, 2), [0, 1], (HUGE,), (-HUGE, 0),
+        (0,) * 1000, tuple(range(30)), (RING, STAR), ("level",), {0: 0, 1: 1}, {"a": (0, 1)}, Refused("level"),
+        TooMany(12), nested(lambda inner: (inner, inner), 0), ((0, 1), (1, 0)), (((0, 1),), 0), ((), ()), ((), 0),
+    ]
+
+
 def all_webs(most):
     """All webs with at most so many places."""
     webs = []
@@ -136,9 +150,20 @@ class Case(unittest.TestCase):
 
 
 def behind_choices(parameters):
-    """Right and wrong values for the parameters behind a wrong one."""
+    """Right and wrong values for the parameters behind a wrong one; for what judges are asked nothing is wrong."""
     choices = [[right for right, _, _ in parameters]]
     if parameters:
-        choices.append([wrong[0] for _, wrong, _ in parameters])
-        choices.append([wrong[-1] for _, wrong, _ in parameters])
+        choices.append([wrong[0] if wrong else None for _, wrong, _ in parameters])
+        choices.append([wrong[-1] if wrong else HUGE for _, wrong, _ in parameters])
     return choices
+
+
+def judged(value):
+    """The parameter of a judge that takes every value."""
+    return (value, [], None)
+
+
+def but(values, *right):
+    """The values other than these; True is not taken for 1 there."""
+    shapes = [shape(value) for value in right]
+    return [value for value in values if shape(value) not in shapes]

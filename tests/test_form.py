@@ -26,6 +26,16 @@ BARRED = (
 TAKE_LISTS = {"any", "all", "min", "max", "sum", "sorted", "set"}
 
 
+COMPREHENSIONS = (ast.ListComp, ast.DictComp, ast.SetComp)
+
+
+def targets(comprehension):
+    """The names that the loops of a comprehension assign."""
+    return {
+        node.id for loop in comprehension.generators for node in ast.walk(loop.target) if isinstance(node, ast.Name)
+    }
+
+
 def sources():
     """The files of the package with their texts."""
     return [(path, path.read_text(encoding="utf-8")) for path in sorted(PACKAGE.rglob("*.py"))]
@@ -105,6 +115,48 @@ class FormTest(unittest.TestCase):
         for node, where in nodes(ast.arg):
             with self.subTest(where=where):
                 self.assertNotIn(node.arg, vars(builtins))
+
+    def test_no_local_name_hides_an_import_or_a_class(self):
+        for path, tree in trees():
+            barred = {alias.name for node in ast.walk(tree) if isinstance(node, ast.ImportFrom) for alias in node.names}
+            barred |= {node.name for node in tree.body if isinstance(node, ast.ClassDef)}
+            for node in ast.walk(tree):
+                name = node.id if isinstance(node, ast.Name) and isinstance(node.ctx, ast.Store) else getattr(node, "arg", None)
+                with self.subTest(path=path.name, line=getattr(node, "lineno", 0)):
+                    self.assertNotIn(name, barred)
+
+    def test_no_two_files_import_from_each_other(self):
+        needs = {}
+        for path, tree in trees():
+            name = ".".join(path.relative_to(PACKAGE.parent).with_suffix("").parts)
+            needs[name] = {node.module for node in ast.walk(tree) if isinstance(node, ast.ImportFrom)}
+        while needs:
+            free = {name for name in needs if not needs[name] & set(needs)}
+            self.assertTrue(free, sorted(needs))
+            needs = {name: needs[name] for name in needs if name not in free}
+
+    def test_methods_of_builtin_values(self):
+        for node, where in nodes(ast.Attribute):
+            with self.subTest(where=where):
+                self.assertNotIn(node.attr, ("sort", "format", "bit_count", "args", "decode", "encode"))
+
+    def test_reversed_takes_no_web(self):
+        for node, where in nodes(ast.Call):
+            if isinstance(node.func, ast.Name):
+                with self.subTest(where=where):
+                    self.assertNotIn(node.func.id, ("reversed", "product", "combinations", "permutations"))
+
+    def test_comprehensions_in_others_have_names_of_their_own(self):
+        for function, where in nodes(ast.FunctionDef):
+            assigned = {
+                node.id for loop in ast.walk(function) if isinstance(loop, (ast.For, ast.Assign))
+                for target in (loop.targets if isinstance(loop, ast.Assign) else [loop.target])
+                for node in ast.walk(target) if isinstance(node, ast.Name)
+            } | {node.arg for node in ast.walk(function) if isinstance(node, ast.arg)}
+            for outer in [node for node in ast.walk(function) if isinstance(node, COMPREHENSIONS)]:
+                for inner in [node for node in ast.walk(outer) if isinstance(node, COMPREHENSIONS) and node is not outer]:
+                    with self.subTest(where=where, line=inner.lineno):
+                        self.assertFalse(targets(inner) & (assigned | targets(outer)))
 
     def test_no_generator_expression_where_a_list_must_stand(self):
         for node, where in nodes(ast.Call):

@@ -33,3 +33,15 @@ def is_ascending(value):
 def are_places(value, size):
     """Tell whether the value is an ascending tuple of places of a web with so many places."""
     return is_ascending(value) and all([0 <= place < size for place in value])
+
+
+def is_arrangement(value, size):
+    """Tell whether the value is a tuple with each place of a web with so many places once."""
+    if not isinstance(value, tuple) or not all([is_within(place, 0, size - 1) for place in value]):
+        return False
+    return sorted(value) == list(range(size))
+
+
+def is_hued(value, size, hues):
+    """Tell whether the value is a tuple with a hue below `hues` for each of so many places."""
+    return isinstance(value, tuple) and len(value) == size and all([is_within(hue, 0, hues - 1) for hue in value])

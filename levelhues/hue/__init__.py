@@ -1,0 +1,1 @@
+"""Colourings of webs: judged, changed, and shifted along chains of hues."""
