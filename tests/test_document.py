@@ -3,7 +3,9 @@
 import unittest
 
 from levelhues import errors
-from levelhues.base import rows, webs
+from levelhues.base import joined, rows, webs
+from levelhues.hue import chains, judged
+from levelhues.level import bars, closed, exact, finding
 from samples import PAIRS, RING, SIDES, STAR
 
 EXAMPLES = """
@@ -17,6 +19,47 @@ EXAMPLES = """
 [((0, 2), (0, 3), (1, 3), (1, 4), (2, 4)), False, True, True, True]
 >>> [Web(3) + Web(3) == SIDES, (SIDES - STAR).most, (SIDES & STAR).ties, RING.untied(0, 4) == Web.path(5), Web.path(3).tied(2, 0) == Web.full(3)]
 [True, 3, ((0, 3), (0, 4), (0, 5)), True, True]
+>>> [ring(5) == RING, parted((3, 3)) == SIDES, tree((0, 0, 0, 0, 0)) == STAR, rearranged(Web.path(3), (1, 0, 2)).ties, pieces(PAIRS), pieces(Web(2))]
+[True, True, True, ((0, 1), (0, 2)), ((0, 1, 2), (3, 4, 5)), ((0,), (1,))]
+>>> [sides(RING), is_odd_ring(RING, odd_ring(RING)), is_odd_ring(RING, (0, 4, 3, 2, 1)), is_odd_ring(RING, (0, 1, 2)), odd_ring(SIDES), len(greatest_apart(RING)), greatest_apart(STAR), len(greatest_clique(PAIRS))]
+[None, True, True, False, None, 2, (1, 2, 3, 4, 5), 3]
+>>> row = (0, 1, 0, 1, 2)
+>>> [is_colouring(RING, 3, row), is_level_colouring(RING, 3, row), is_level_colouring(RING, 4, row), clashes(RING, (0, 0, 1, 0, 0)), movable(RING, 4, row, 1), movable(RING, 4, row, 4)]
+[True, True, False, ((0, 1), (0, 4), (3, 4)), (2, 3), (3,)]
+>>> [moved(RING, 3, row, 1, 2), piece_of(RING, 3, row, 0, 1), piece_exchanged(RING, 3, row, 4, 1), greedy(RING, (0, 1, 2, 3, 4)), greedy(STAR, (5, 4, 3, 2, 1, 0))]
+[(0, 2, 0, 1, 2), (0, 1, 2, 3), (0, 1, 0, 2, 1), (0, 1, 0, 1, 2), (1, 0, 0, 0, 0, 0)]
+>>> alone = Web(4, ((0, 1), (2, 3)))
+>>> [links(alone, 3, (0, 1, 0, 1)), len(chain(alone, 3, (0, 1, 0, 1), 0, 2)), is_chain(alone, 3, (0, 1, 0, 1), 0, 2, ((2, 2),)), reaching(alone, 3, (0, 1, 0, 1), 2), closed_set(alone, 2, (0, 1, 0, 1), 0, 1)]
+[{(0, 2): (0, 2), (1, 2): (1, 3)}, 1, True, (0, 1, 2), (1,)]
+>>> wide = (0, 1, 1, 1, 1, 1)
+>>> [reaching(STAR, 2, wide, 0), is_closed_set(STAR, 2, wide, 0, (0,)), evened(STAR, 2, wide), is_level(shifted_by(STAR, 6, wide, evened(STAR, 6, wide)), 6), shifted(alone, 3, (0, 1, 0, 1), ((2, 2),))]
+[(0,), True, (), True, (0, 1, 2, 1)]
+>>> chain(STAR, 2, wide, 1, 0)
+raises NoChain
+>>> [is_level_colouring(RING, 3, level_colouring(RING, 3)), level_colouring(RING, 2), level_colouring(STAR, 3), has_level(SIDES, 2), has_level(SIDES, 3), has_level(SIDES, 4)]
+[True, None, None, True, False, True]
+>>> [level_numbers(SIDES), fewest_level(SIDES), level_from(SIDES), level_numbers(STAR), level_from(RING), level_paper(SIDES, 3)[0], is_level_paper(RING, 3, ("colouring", (0, 1, 0, 1, 2)))]
+[(2, 4, 5, 6), 2, 4, (4, 5, 6), 3, 'bar', True]
+>>> [len(recoloured((0, 0, 1, 1, 2), level_again(RING, 3, (0, 0, 1, 1, 2)))), level_again(RING, 3, (0, 1, 0, 1, 2)), recoloured((0, 1), (0, 2))]
+[2, (0, 1, 0, 1, 2), (1,)]
+>>> [is_bar(PAIRS, 2, ("clique", (0, 1, 2))), clique_bar(RING, 2), is_bar(STAR, 3, ("place", 0, ())), is_bar(STAR, 4, ("place", 0, ())), place_bar(SIDES, 3)]
+[True, None, True, False, None]
+>>> [is_bar(STAR, 3, cases_bar(STAR, 3)), cases_bar(RING, 3), is_bar(SIDES, 3, bar(SIDES, 3)), bar(SIDES, 2)]
+[True, None, True, None]
+>>> cases = ("cases", (((), 0), ((0, 1), 1), ((0, 2), 1), ((1, 2), 1)))
+>>> [is_bar(SIDES, 3, cases), is_bar(SIDES, 3, ("cases", cases[1][:2]))]
+[True, False]
+>>> star = Web(5, ((0, 1), (0, 2), (0, 3), (0, 4)))
+>>> [sized_colouring(star, (1, 4)), sized_colouring(star, (2, 3)), count_colourings(star, 2), count_level(star, 2), count_level(star, 3)]
+[(0, 1, 1, 1, 1), None, 2, 0, 18]
+>>> [set_colouring(star, 3, {0: 2, 1: 0, 2: 0, 3: 1}), set_colouring(star, 3, {1: 0, 2: 0, 3: 0}), list_colouring(star, ((0, 1), (0,), (0,), (0,), (0,)), 4), list(colourings(Web(2, ((0, 1),)), 2))]
+[(2, 0, 0, 1, 1), None, (1, 0, 0, 0, 0), [(0, 1), (1, 0)]]
+>>> [is_tree(star), forest_apart(star), [tree_has_level(star, hues) for hues in (1, 2, 3)], is_tree(Web(2, ()))]
+[True, 4, [False, False, True], False]
+>>> [[parted_has_level((3, 3), hues) for hues in (1, 2, 3, 4, 7)], is_parting((3, 3), 4, ((1, 2), (2, 1))), is_parting((3, 3), 4, ((3,), (1, 1, 1))), parted_level((3, 3), 3)]
+[[False, True, False, True, True], True, False, None]
+>>> [path_has_level(9, 2), ring_has_level(9, 2), ring_has_level(9, 3), parted_has_level((1000, 999), 7)]
+[True, False, True, False]
 """
 
 
@@ -32,7 +75,7 @@ def examples():
 class DocumentTest(unittest.TestCase):
     def test_examples(self):
         names = {"RING": RING, "STAR": STAR, "SIDES": SIDES, "PAIRS": PAIRS}
-        for module in (errors, rows, webs):
+        for module in (errors, rows, webs, joined, judged, chains, finding, bars, exact, closed):
             names.update(vars(module))
         for code, wanted in examples():
             with self.subTest(code=code):

@@ -1,0 +1,1 @@
+"""Level colourings: found, counted, or barred by a short paper."""
