@@ -4,8 +4,10 @@ import unittest
 
 from levelhues import errors
 from levelhues.base import joined, rows, webs
+from levelhues.group import laid, weights
 from levelhues.hue import chains, judged
 from levelhues.level import bars, closed, exact, finding
+from levelhues.ties import rounds
 from samples import PAIRS, RING, SIDES, STAR
 
 EXAMPLES = """
@@ -60,6 +62,22 @@ raises NoChain
 [[False, True, False, True, True], True, False, None]
 >>> [path_has_level(9, 2), ring_has_level(9, 2), ring_has_level(9, 3), parted_has_level((1000, 999), 7)]
 [True, False, True, False]
+>>> lots = (((0, 1), (2, 3)), ((1, 2), (3, 4)), ((0, 4),))
+>>> [is_rounds(RING, 3, lots), is_rounds(RING, 3, rounds(RING, 3)), is_rounds(star, 4, rounds(star, 4)), is_rounds(RING, 3, (lots[0], (), lots[1] + lots[2]))]
+[True, True, True, False]
+>>> [way_of(RING, lots, 0, 2, (0, 4)), way_exchanged(RING, lots, 0, 2, (0, 4)), way_of(RING, lots, 0, 1, (2, 3))]
+[((0, 1), (0, 4)), (((0, 4), (2, 3)), ((1, 2), (3, 4)), ((0, 1),)), ((0, 1), (1, 2), (2, 3), (3, 4))]
+>>> rounds(RING, 2)
+raises Refused
+>>> weights = (5, 1, 3, 3, 8)
+>>> [weight_groups(weights, 2), weight_spread(weights, 2, (0, 1, 1, 1, 1)), is_weighted(star, weights, 3, (0, 1, 1, 1, 2)), weighted(star, weights, 2)]
+[((0, 4), (2, 3), (1,)), 10, True, None]
+>>> few = Web(3, ((0, 1),))
+>>> [is_grouped(few, ((0, 2), (1,)), 2, grouped_colouring(few, ((0, 2), (1,)), 2)), is_grouped(star, ((0, 1), (2, 3, 4)), 4, (0, 1, 1, 2, 3)), grouped_colouring(star, ((0,), (1, 2, 3, 4)), 4), weight_spread((7,), 3, (1,))]
+[True, True, None, 7]
+>>> pairs = Web(5, ((0, 1), (2, 3)))
+>>> [common_ties(pairs, pairs, (0, 1, 2, 3, 4)), is_laid(pairs, pairs, (0, 2, 1, 3, 4)), improved(pairs, pairs, (0, 2, 1, 3, 4)), is_laid(pairs, pairs, laid(pairs, pairs)), laid(star, star), swapped(pairs, pairs, (0, 1, 2, 3, 4), (1, 2))]
+[((0, 1), (2, 3)), True, None, True, None, (0, 2, 1, 3, 4)]
 """
 
 
@@ -75,7 +93,7 @@ def examples():
 class DocumentTest(unittest.TestCase):
     def test_examples(self):
         names = {"RING": RING, "STAR": STAR, "SIDES": SIDES, "PAIRS": PAIRS}
-        for module in (errors, rows, webs, joined, judged, chains, finding, bars, exact, closed):
+        for module in (errors, rows, webs, joined, judged, chains, finding, bars, exact, closed, rounds, weights, laid):
             names.update(vars(module))
         for code, wanted in examples():
             with self.subTest(code=code):

@@ -1,0 +1,1 @@
+"""Groups and weights of places, and webs laid on one another."""

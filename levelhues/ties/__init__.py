@@ -1,0 +1,1 @@
+"""Ties of webs, put into rounds."""
