@@ -14,6 +14,7 @@ from levelhues.errors import (
     TooMany,
     UnknownName,
 )
+from levelhues.live.plan import Plan
 
 RING = Web(5, ((0, 1), (0, 4), (1, 2), (2, 3), (3, 4)))
 STAR = Web(6, ((0, 1), (0, 2), (0, 3), (0, 4), (0, 5)))
@@ -45,7 +46,7 @@ def odd_values():
     return [
         True, False, None, "", "0", "web 5", "a\nb", "~" * 400, (), [], [0], [0, 1], [(0, 1)], {}, {0: 1},
         nested(lambda inner: [inner], 0), nested(lambda inner: {"a": inner}, 0),
-        Web(1), RING, Web.full(10) | Web.path(10), InvalidWeb("web"), InvalidNumber(0),
+        Web(1), RING, Web.full(10) | Web.path(10), InvalidWeb("web"), InvalidNumber(0), Plan(2), Plan(1).attempt(),
     ]
 
 
@@ -104,6 +105,8 @@ def shape(value):
         return ("dict", [(shape(key), shape(value[key])) for key in value])
     if isinstance(value, Web):
         return ("Web", value.size, repr(value.ties), repr([value[place] for place in range(value.size)]))
+    if isinstance(value, Plan):
+        return ("Plan", value.people, shape(value.works), repr(value.clashes))
     if isinstance(value, Exception):
         return (type(value).__name__, repr(value.args))
     return repr(value)

@@ -5,12 +5,17 @@ import unittest
 from levelhues import errors
 from levelhues.base import joined, rows, webs
 from levelhues.group import laid, weights
-from levelhues.hue import chains, judged
-from levelhues.level import bars, closed, exact, finding
+from levelhues.hue import chains, judged, ways
+from levelhues.level import bars, closed, exact, finding, promised
+from levelhues.live import plan
+from levelhues.text import formats
 from levelhues.ties import rounds
 from samples import PAIRS, RING, SIDES, STAR
 
-EXAMPLES = """
+MODULES = (
+    errors, rows, webs, joined, judged, chains, finding, bars, exact, closed, rounds, weights, laid, formats, plan, promised, ways,
+)
+EXAMPLES = r"""
 >>> [sizes((0, 1, 0, 2), 4), spread((0, 1, 0, 2), 4), is_level((0, 1, 0, 2), 3), is_level((0, 1, 0, 2), 4), level_sizes(7, 3), classes((1, 0, 1), 3)]
 [(2, 1, 1, 0), 2, True, False, (3, 2, 2), ((1,), (0, 2), ())]
 >>> [row_of(((2,), (0, 1))), exchanged((0, 1, 0), 3, 0, 2), renamed((3, 1, 3, 0)), are_alike((0, 1, 1), (2, 0, 0))]
@@ -78,6 +83,32 @@ raises Refused
 >>> pairs = Web(5, ((0, 1), (2, 3)))
 >>> [common_ties(pairs, pairs, (0, 1, 2, 3, 4)), is_laid(pairs, pairs, (0, 2, 1, 3, 4)), improved(pairs, pairs, (0, 2, 1, 3, 4)), is_laid(pairs, pairs, laid(pairs, pairs)), laid(star, star), swapped(pairs, pairs, (0, 1, 2, 3, 4), (1, 2))]
 [((0, 1), (2, 3)), True, None, True, None, (0, 2, 1, 3, 4)]
+>>> [write_web(pairs), write_row((0, 1, 1)), write_chain(((3, 1), (0, 2))), write_rounds(lots[1:] + ((),))]
+['web 5\ntie 0 1\ntie 2 3', 'row 0 1 1', 'move 3 1\nmove 0 2', 'round 1-2 3-4\nround 0-4\nround -']
+>>> [read_web(write_web(star)) == star, read_row("row 4"), read_chain("move 0 0"), read_rounds(write_rounds(lots)) == lots]
+[True, (4,), ((0, 0),), True]
+>>> read_web("web 3\ntie 1 0")
+raises ParseError
+>>> plan = Plan(2)
+>>> [plan.add_work("b"), plan.add_work("a", ("b",)), plan.works in ({"a": 1, "b": 0}, {"a": 0, "b": 1}), plan.loads, plan.clashes, len(plan)]
+[(), (), True, (1, 1), (('a', 'b'),), 2]
+>>> [plan.hire(), plan.add_work("c", ("a", "b")), plan.loads, plan.web == Web(3, ((0, 1), (0, 2), (1, 2))), plan.undo(many=2), plan.people, str(plan)]
+[(), (), (1, 1, 1), True, 2, 2, 'plan of 2 works, 1 clashes, 2 people']
+>>> plan.add_work("c", ("a", "b"))
+raises Refused
+>>> [thickness(RING), thickness(STAR), thickness(SIDES), is_thin_order(STAR, 1, thin_order(STAR, 1)), thick_core(STAR, 1), is_thick_core(PAIRS, 1, (3, 4, 5)), is_thick_core(PAIRS, 1, (2, 3, 4, 5)), thin_order(RING, 1)]
+[2, 1, 3, True, None, True, False, None]
+>>> [tie_sum(STAR), promised_from(STAR), tie_sum(RING), promised_from(RING), promised_from(Web(3)), has_level_at_most(SIDES), has_level_at_most(RING), is_odd_shape(SIDES, ("lots", (0, 1, 2), (3, 4, 5)))]
+[6, 4, 4, 3, 1, False, False, True]
+>>> [odd_shape(Web.path(4)), has_level_at_most(Web.path(4)), odd_shape(Web.full(4)), is_odd_shape(RING, odd_shape(RING)), has_level_at_most(Web(4) + Web(4)), has_level_at_most(Web.full(2))]
+[None, True, ('full', (0, 1, 2, 3)), True, True, False]
+>>> edge = Web.path(2)
+>>> [way(edge, 2, (0, 1), (1, 0)), closed_class(edge, 2, (0, 1), (1, 0)), classes_of(edge, 2), is_way(edge, 2, (0, 1), (1, 0), ((1, 0),), pieces=True), is_frozen(edge, 2, (0, 1)), is_frozen(edge, 3, (0, 1))]
+[None, ((0, 1),), (((0, 1),), ((1, 0),)), True, True, False]
+>>> [is_way(edge, 3, (0, 1), (1, 0), ((0, 2), (1, 0), (0, 1))), is_way(edge, 3, (0, 1), (1, 0), ((0, 1),)), is_way(edge, 3, (0, 1), (1, 0), way(edge, 3, (0, 1), (1, 0))), walked(RING, 3, (0, 1, 0, 1, 2), ((4, 1),), pieces=True)]
+[True, False, True, (0, 1, 0, 2, 1)]
+>>> [len(classes_of(RING, 3)), len(classes_of(RING, 3, pieces=True)), is_closed_class(edge, 2, ((0, 1), (1, 0))), is_closed_class(edge, 3, ((0, 1),)), is_way(RING, 3, (0, 1, 0, 1, 2), (0, 1, 0, 1, 2), ())]
+[2, 1, True, False, True]
 """
 
 
@@ -93,7 +124,7 @@ def examples():
 class DocumentTest(unittest.TestCase):
     def test_examples(self):
         names = {"RING": RING, "STAR": STAR, "SIDES": SIDES, "PAIRS": PAIRS}
-        for module in (errors, rows, webs, joined, judged, chains, finding, bars, exact, closed, rounds, weights, laid):
+        for module in MODULES:
             names.update(vars(module))
         for code, wanted in examples():
             with self.subTest(code=code):

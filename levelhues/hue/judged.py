@@ -1,7 +1,6 @@
 """Colourings judged, and changed at one place or at one piece of two hues."""
 
 from levelhues.base.checks import check_within, is_arrangement, is_hued, is_integer
-from levelhues.base.joined import pieces
 from levelhues.base.rows import MAX_HUES, is_level
 from levelhues.base.webs import check_web
 from levelhues.errors import InvalidOperation, InvalidRow, Refused
@@ -52,9 +51,7 @@ def piece_of(web, hues, row, place, hue):
     check_hue(hues, hue)
     if row[place] == hue:
         raise InvalidOperation("the place has the told hue")
-    kept = tuple([other for other, worn in enumerate(row) if worn in (row[place], hue)])
-    own = [piece for piece in pieces(web.part(kept)) if kept.index(place) in piece]
-    return tuple([kept[at] for at in own[0]])
+    return tuple(sorted(piece_in(web, dict(enumerate(row)), place, hue)))
 
 
 def piece_exchanged(web, hues, row, place, hue):
@@ -97,6 +94,21 @@ def open_hues(web, hues, row, place):
     """Return the hues to which a place is movable, without a look at the arguments."""
     closed = [row[place], *[row[other] for other in web[place]]]
     return tuple([hue for hue in range(hues) if hue not in closed])
+
+
+def piece_in(web, worn, place, hue):
+    """Return the list of the places of the piece of a place and another hue, in any order.
+
+    The dict tells the hues of all places, or of some; then it is the piece in the web of these.
+    """
+    both = (worn[place], hue)
+    piece = [place]
+    ahead = [place]
+    while ahead:
+        near = [other for other in web[ahead.pop()] if worn.get(other) in both and other not in piece]
+        piece.extend(near)
+        ahead.extend(near)
+    return piece
 
 
 def changed_row(row, changes):

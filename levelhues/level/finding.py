@@ -78,10 +78,18 @@ def level_again(web, hues, row):
         raise InvalidRow("no tuple with a hue for each place")
     if web.size > MAX_SEARCHED:
         raise TooMany(MAX_SEARCHED)
-    found = _unlike_row(row, hues) if hues >= web.size else _nearest_row(web, hues, row)
+    found = nearest_level(web, hues, row)
     if found is None:
         raise Refused("level")
     return found
+
+
+def nearest_level(web, hues, row):
+    """Return a level colouring that is like a row at as many places as any, or None, without a look at the arguments.
+
+    The row may tell a number that is no hue for some places: no colouring is like it there.
+    """
+    return _unlike_row(row, hues) if hues >= web.size else _nearest_row(web, hues, row)
 
 
 def recoloured(row, other):
@@ -229,7 +237,7 @@ def _unlike_row(row, hues):
     spare = [hue for hue in range(hues) if hue not in row]
     found = []
     for hue in row:
-        found.append(spare.pop() if hue in found else hue)
+        found.append(spare.pop() if hue in found or hue >= hues else hue)
     return tuple(found)
 
 

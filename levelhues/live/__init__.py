@@ -1,0 +1,1 @@
+"""A plan that is kept level while it changes."""

@@ -1,0 +1,1 @@
+"""Texts of webs, rows, chains and rounds."""
