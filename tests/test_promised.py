@@ -328,6 +328,7 @@ class OddShapeTest(Case):
         self.assertIs(is_odd_shape(RING, ("ring", every)), True)
         wrong_rings = [
             ("ring", every[:4]), ("ring", every[:3]), ("ring", (0, 2, 1, 3, 4)), ("ring", list(every)), ("ring", (False, 1, 2, 3, 4)), ("full", every),
+            ("Ring", every), ("lots", every), ("", every), (None, every), (0, every), ("ring", every, (), ()), ("ring", every, every, every),
             ("ring", (*every, 0)), ("ring", every, ()), ("ring",), ["ring", every], ("ring", (*every, *every, *every)), ("ring", None),
         ]
         for value in [*wrong_rings, *any_values()]:
@@ -337,12 +338,19 @@ class OddShapeTest(Case):
         self.assertIs(is_odd_shape(whole, ("full", every)), True)
         wrong_full = [
             ("full", every[:4]), ("full", every[::-1]), ("full", (*every, 5)), ("full", list(every)), ("full", every, every), ["full", every],
+            ("full", every, (), ()), ("full", every, every, every), ("Full", every), ("lots", every), (None, every),
             ("full", (0, True, 2, 3, 4)), ("full", (False, *every[1:])), ("ring", every), ("full", ()), ("full",), "full", ("full", None),
         ]
         for value in [*wrong_full, *any_values()]:
             with self.subTest(value=value):
                 self.assertIs(is_odd_shape(whole, value), False)
         self.assertIs(is_odd_shape(whole.untied(0, 4), ("full", every)), False)
+        # Three places that are each tied to three others, of which there are four: as many ties as between three and three.
+        nearly = Web(7, ((0, 3), (0, 4), (0, 5), (1, 3), (1, 4), (1, 6), (2, 4), (2, 5), (2, 6)))
+        self.assertEqual([nearly.most, len(nearly.ties), odd_shape(nearly)], [3, 9, None])
+        self.assertIs(has_level_at_most(nearly), has_level(nearly, 3))
+        self.assertIs(is_odd_shape(nearly, ("lots", (0, 1, 2), (3, 4, 5, 6))), False)
+        self.assertIs(is_odd_shape(nearly, ("lots", (3, 4, 5, 6), (0, 1, 2))), False)
         # A ring with a further tie, or with a place that hangs on it, is no odd shape.
         self.assertIs(is_odd_shape(RING.tied(0, 2), ("ring", every)), False)
         self.assertIs(is_odd_shape((RING | Web(1)).tied(0, 5), ("ring", every)), False)

@@ -70,9 +70,9 @@ def classes_of(web, hues, *, pieces=False):
     found = []
     for row in _all_colourings(web, hues):
         if row not in seen:
-            came = _reached(web, hues, row, pieces)
-            seen.update(came)
-            found.append(tuple(sorted(came)))
+            found.append(tuple(sorted(_reached(web, hues, row, pieces))))
+            for known in found[-1]:
+                seen[known] = True
     return tuple(found)
 
 
