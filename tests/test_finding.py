@@ -24,9 +24,7 @@ from levelhues.level.finding import (
 from plain import (
     BARE,
     FULL,
-    LOTS,
     TIGHT,
-    TRIANGLES,
     bounded_web,
     is_level,
     is_proper,

@@ -22,6 +22,13 @@ SPECIAL = set(
 BARRED = (
     ast.AsyncFunctionDef, ast.AsyncFor, ast.AsyncWith, ast.Await, ast.Import, ast.Div, ast.MatMult,
 )
+# Words that stand nowhere, and words that stand only in comments and docstrings.
+BARRED_WORDS = set(
+    "register mro elements open input law version_info with_traceback add_note attrgetter breakpoint builtins compile copyright credits "
+    "delattr dir eval exec exit gc globals help id importlib license locals methodcaller os quit setattr vars sys "
+    "type typing typing_extensions enum Enum IntEnum StrEnum Flag IntFlag Generic Protocol ABC ABCMeta namedtuple NamedTuple TypedDict "
+    "TYPE_CHECKING abstractmethod".split()
+)
 # Where a class has an `__eq__`, these take a list instead of a generator expression.
 TAKE_LISTS = {"any", "all", "min", "max", "sum", "sorted", "set"}
 
@@ -85,6 +92,22 @@ class FormTest(unittest.TestCase):
                 if node.module not in LIBRARY:
                     file = PACKAGE.parent.joinpath(*node.module.split(".")).with_suffix(".py")
                     self.assertLessEqual({alias.name for alias in node.names}, names_bound_in(file))
+
+    def test_imports_are_used(self):
+        for path, tree in trees():
+            used = {node.id for node in ast.walk(tree) if isinstance(node, ast.Name)}
+            for node in ast.walk(tree):
+                if isinstance(node, ast.ImportFrom):
+                    with self.subTest(path=path.name):
+                        self.assertLessEqual({alias.name for alias in node.names}, used)
+
+    def test_barred_words(self):
+        for node, where in nodes((ast.Name, ast.Attribute, ast.arg, ast.FunctionDef, ast.ClassDef, ast.keyword)):
+            told = [getattr(node, name, None) for name in ("id", "attr", "arg", "name")]
+            with self.subTest(where=where):
+                self.assertFalse(BARRED_WORDS & set(told))
+        for path, text in sources():
+            self.assertNotRegex(text, r"_wall|_WallAttr|dataclass|overload|contextmanager|\(type\)|Meta|metaclass=")
 
     def test_no_barred_statements_and_signs(self):
         for _, where in nodes(BARRED):

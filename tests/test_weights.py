@@ -16,7 +16,7 @@ from levelhues.group.weights import (
     weighted,
 )
 from plain import BARE, FULL, LOTS, TRIANGLES, all_colourings, all_rows, bounded_web, is_proper, some_webs
-from samples import HUGE, PAIRS, RING, SIDES, STAR, Case, all_webs, any_values, but, judged, wrong_numbers, wrong_webs
+from samples import HUGE, PAIRS, RING, SIDES, STAR, Case, all_webs, any_values, judged, wrong_numbers, wrong_webs
 
 MOST = 10 ** 6
 SMALL = [*all_webs(3), *all_webs(4)[11::3], *all_webs(5)[-1024::41], RING]

@@ -17,6 +17,7 @@ def grouped_colouring(web, groups, hues):
     for group in groups:
         for place in group:
             beside[place].extend([other for other in group if other != place])
+    # Where no place has a weight, each row shares the weights evenly.
     return _even_row(beside, (0,) * web.size, hues)
 
 

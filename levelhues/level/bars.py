@@ -10,7 +10,6 @@ from levelhues.level.covers import (
     every_place,
     least_in,
     level_cover,
-    many_in,
     places_of,
     sets_in_cover,
     tied_sets,
