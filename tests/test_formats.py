@@ -92,7 +92,7 @@ class TextCase(Case):
                 self.assert_keeps(ParseError, value, read, text)
             elif kind == "web":
                 size, ties = value[0], tuple(value[1:])
-                if 1 <= size <= 20 and all(other < size for _, other in ties):
+                if 1 <= size <= 10 and all(other < size for _, other in ties):
                     web = read(text)
                     self.assert_same([web.size, web.ties], [size, ties])
                     self.assert_same(web.degrees, tuple(sum(place in tie for tie in ties) for place in range(size)))
@@ -107,25 +107,53 @@ class TextCase(Case):
 
 
 class WebTextTest(TextCase):
+    def assert_written(self, web):
+        """Check the text of a web, and return it."""
+        text = write_web(web)
+        lines = [f"web {web.size}"] + [f"tie {one} {other}" for one, other in web.ties]
+        self.assert_same(text, "\n".join(lines))
+        return text
+
     def test_written_and_read_again(self):
-        for web in [*all_webs(4), *all_webs(5)[-1024::9], *some_webs(181, 40, 6, 20), *TIGHT, BARE, FULL, LOTS, TRIANGLES, Web(10)]:
-            text = write_web(web)
-            lines = [f"web {web.size}"] + [f"tie {one} {other}" for one, other in web.ties]
-            self.assert_same(text, "\n".join(lines))
+        for web in [*all_webs(4), *all_webs(5)[-1024::9], *some_webs(181, 40, 6, 10), Web(10), Web.path(10), Web.full(10)]:
+            text = self.assert_written(web)
             again = read_web(text)
             self.assertTrue(again == web)
             self.assert_same(again, web)
             self.assert_same(write_web(again), text)
 
+    def test_wide_webs_are_written_and_not_read(self):
+        joined = [Web.path(10) | Web(1), Web(1) + Web(10), Web.full(10) | Web.path(5), Web(9) + Web(2)]
+        for web in [*some_webs(183, 40, 11, 20), *TIGHT, *joined, BARE, FULL, LOTS, TRIANGLES]:
+            text = self.assert_written(web)
+            self.assert_raises(InvalidWeb, read_web, text)
+            # A part of such a web that is narrow enough is read.
+            part = web.part(tuple(range(10)))
+            self.assert_same(read_web(write_web(part)), part)
+
     def test_known_texts(self):
         self.assert_same(write_web(Web(1)), "web 1")
         self.assert_same(read_web("web 1"), Web(1))
-        self.assert_same(read_web("web 20"), BARE)
         self.assert_same(read_web("web 5\ntie 0 1\ntie 0 4\ntie 1 2\ntie 2 3\ntie 3 4"), RING)
-        self.assert_same(read_web("web 12\ntie 2 11\ntie 9 10").ties, ((2, 11), (9, 10)))
+        self.assert_same(read_web("web 10"), Web(10))
+        self.assert_same(read_web("web 10\ntie 0 9"), Web(10, ((0, 9),)))
+        self.assert_same(read_web("web 10\ntie 2 9\ntie 8 9"), Web(10, ((2, 9), (8, 9))))
+
+    def test_sizes(self):
+        for size in (*range(25), 99, 100, 101, 110, 1000, 9999):
+            behind = ["", "\ntie 0 1", "\ntie 0 1\ntie 0 2\ntie 1 2", f"\ntie 0 {size}", f"\ntie 0 1\ntie 1 {size + 1}", "\ntie 0 1\ntie 1 0"]
+            behind += [f"\ntie {size - 2} {size - 1}", f"\ntie 0 {size - 1}\ntie 1 {size}"] if size > 1 else []
+            for ties in behind:
+                self.assert_read("web", read_web, f"web {size}{ties}")
+        for size in range(1, 11):
+            self.assert_same(read_web(f"web {size}"), Web(size))
+            self.assert_same(read_web(write_web(Web.full(size))), Web.full(size))
+        for size in (0, *range(11, 22)):
+            for ties in ("", "\ntie 0 1", "\ntie 0 1\ntie 0 9\ntie 8 9"):
+                self.assert_raises(InvalidWeb, read_web, f"web {size}{ties}")
 
     def test_bent_texts(self):
-        for web in (Web(1), Web(2).tied(0, 1), Web.path(4), Web.full(3) | Web(9)):
+        for web in (Web(1), Web(2).tied(0, 1), Web.path(4), Web.full(3) | Web(7), Web.full(3) | Web(9)):
             for text in bent(write_web(web)):
                 self.assert_read("web", read_web, text)
 
@@ -145,10 +173,18 @@ class WebTextTest(TextCase):
         self.assert_keeps(ParseError, 191, read_web, write_web(FULL) + "\ntie 18 19")
 
     def test_sizes_and_places_come_last(self):
-        for text in ("web 0", "web 21", "web 100", "web 9999", "web 2\ntie 0 2", "web 2\ntie 0 1\ntie 0 9999", "web 1\ntie 0 1", "web 20\ntie 0 20", "web 0\ntie 0 1", "web 3\ntie 0 7\ntie 1 2"):
+        texts = [
+            "web 0", "web 11", "web 12", "web 19", "web 20", "web 21", "web 100", "web 9999", "web 0\ntie 0 1", "web 11\ntie 0 1", "web 11\ntie 9 10", "web 12\ntie 2 11\ntie 9 10",
+            "web 20\ntie 0 1", "web 20\ntie 18 19", "web 20\ntie 0 20", "web 21\ntie 0 1", "web 2\ntie 0 2", "web 2\ntie 0 1\ntie 0 9999", "web 1\ntie 0 1", "web 10\ntie 0 10",
+            "web 10\ntie 10 11", "web 10\ntie 0 9\ntie 9 10", "web 3\ntie 0 7\ntie 1 2",
+        ]
+        for text in texts:
             self.assert_raises(InvalidWeb, read_web, text)
             self.assert_keeps(ParseError, len(text.split("\n")), read_web, text + "\n")
-        self.assert_keeps(ParseError, 2, read_web, "web 2\ntie 0 5\ntie 0 4")
+        for size in (0, 1, 2, 10, 11, 20, 21):
+            self.assert_keeps(ParseError, 1, read_web, f"web {size}\ntie 1 0")
+            self.assert_keeps(ParseError, 1, read_web, f"web {size}\ntie 0 0\nnothing")
+            self.assert_keeps(ParseError, 2, read_web, f"web {size}\ntie 0 5\ntie 0 4")
 
     def test_errors(self):
         self.assert_order(write_web, (RING, wrong_webs(), InvalidWeb))
@@ -277,10 +313,11 @@ class LongTextTest(TextCase):
         ties = tuple(sorted({tuple(sorted(step)) for step in steps if step[0] != step[1]}))
         self.assert_same(read_rounds(write_rounds((ties, (), ties))), (ties, (), ties))
         self.assert_keeps(ParseError, 10000, read_chain, write_chain(steps) + "\n")
-        # A web's ties are read before the places are looked at.
-        text = "web 20\n" + "\n".join(f"tie {one} {other}" for one, other in ties)
-        self.assert_raises(InvalidWeb, read_web, text)
-        self.assert_keeps(ParseError, len(ties) + 1, read_web, text + "\ntie 0 1")
+        # A web's ties are read before the size and the places are looked at.
+        for size in (10, 20):
+            text = f"web {size}\n" + "\n".join(f"tie {one} {other}" for one, other in ties)
+            self.assert_raises(InvalidWeb, read_web, text)
+            self.assert_keeps(ParseError, len(ties) + 1, read_web, text + "\ntie 0 1")
 
 
 if __name__ == "__main__":

@@ -1,9 +1,8 @@
 """Texts of webs, rows, chains and rounds: written, and read again."""
 
-from levelhues.base.checks import ascends, is_integer, is_within
-from levelhues.base.rows import MOST_PLACES
-from levelhues.base.webs import check_web, web_of
-from levelhues.errors import InvalidOperation, InvalidRow, InvalidWeb, ParseError
+from levelhues.base.checks import ascends, is_integer
+from levelhues.base.webs import Web, check_web
+from levelhues.errors import InvalidOperation, InvalidRow, ParseError
 
 _DIGITS = "0123456789"
 _EMPTY = "-"
@@ -38,7 +37,7 @@ def write_rounds(rounds):
 
 
 def read_web(text):
-    """Return the web with this text."""
+    """Return the web with this text, of at most ten places."""
     lines = _lines(text)
     size = _numbers(lines[0], "web", 1)
     if size is None:
@@ -49,10 +48,8 @@ def read_web(text):
         if tie is None or not _are_ties((*ties[-1:], tie)):
             raise ParseError(at)
         ties.append(tie)
-    # The constructor takes at most ten places, but webs that are made of others can have more.
-    if not is_within(size[0], 1, MOST_PLACES) or not all([other < size[0] for _, other in ties]):
-        raise InvalidWeb("no web has so many places, or a tie has none of them")
-    return web_of(size[0], tuple(ties))
+    # The class alone says which sizes and ties are right: webs that were made of others can be too wide for it.
+    return Web(size[0], tuple(ties))
 
 
 def read_row(text):
